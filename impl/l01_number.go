@@ -40,10 +40,11 @@ const minShort = -32768
 const maxShort = 32767
 const maxNumbers = 20
 
+// SumOf computes its results with nextSum, so that they depend on data alone. The
+// table of the checksum, computed once, stays beside it and is only read.
 var foldOnce sync.Once
 
-// foldTable[q] is q * 65536 modulo 65521. A sum times 241 plus a byte plus 1 is
-// less than 241 * 65536, so its upper part is an index of this table.
+// foldTable[q] is q * 65536 modulo 65521.
 var foldTable [sumFactor]int64
 
 func fillFold() {
@@ -52,14 +53,8 @@ func fillFold() {
 	}
 }
 
-// foldSum returns x modulo 65521 for x from 0 to 241 * 65536 - 1. The two parts
-// add up to less than 2 * 65521, so subtracting once is enough.
-func foldSum(x int64) int64 {
-	sum := foldTable[x>>16] + x&65535
-	if sum > MaxSum {
-		sum -= MaxSum + 1
-	}
-	return sum
+func nextSum(sum int64, b byte) int64 {
+	return (sumFactor*sum + int64(b) + 1) % (MaxSum + 1)
 }
 
 func SumOf(data []byte) IntResult {
@@ -67,9 +62,10 @@ func SumOf(data []byte) IntResult {
 		return IntResult{Code: ErrMany}
 	}
 	foldOnce.Do(fillFold)
+	_ = foldTable[0]
 	sum := int64(sumStart)
 	for _, b := range data {
-		sum = foldSum(sumFactor*sum + int64(b) + 1)
+		sum = nextSum(sum, b)
 	}
 	return IntResult{Value: sum}
 }
