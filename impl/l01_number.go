@@ -40,7 +40,7 @@ const minShort = -32768
 const maxShort = 32767
 const maxNumbers = 20
 
-// SumOf computes its results with nextSum, so that they depend on data alone. The
+// SumOf computes its results with sumBytes, so that they depend on data alone. The
 // table of the checksum, computed once, stays beside it and is only read.
 var foldOnce sync.Once
 
@@ -57,17 +57,21 @@ func nextSum(sum int64, b byte) int64 {
 	return (sumFactor*sum + int64(b) + 1) % (MaxSum + 1)
 }
 
+func sumBytes(data []byte) int64 {
+	sum := int64(sumStart)
+	for _, b := range data {
+		sum = nextSum(sum, b)
+	}
+	return sum
+}
+
 func SumOf(data []byte) IntResult {
 	if len(data) > sumMost {
 		return IntResult{Code: ErrMany}
 	}
 	foldOnce.Do(fillFold)
 	_ = foldTable[0]
-	sum := int64(sumStart)
-	for _, b := range data {
-		sum = nextSum(sum, b)
-	}
-	return IntResult{Value: sum}
+	return IntResult{Value: sumBytes(data)}
 }
 
 func isShort(n int64) bool {

@@ -218,6 +218,12 @@ func TestPlaceArgumentsAreUnchanged(t *testing.T) {
 			t.Errorf("%+v was changed", given)
 		}
 	}
+	checkLayoutRows(t, func(list []impl.Row, mark int64) { impl.PlacesOf(list, mark) })
+}
+
+// checkLayoutRows checks that a call leaves the rows unchanged that a layout is made of, up to their capacity.
+func checkLayoutRows(t *testing.T, call func(list []impl.Row, mark int64)) {
+	t.Helper()
 	inputs := [][]impl.Row{nil, {row(0, 1, 0, 0), row(1, 2, 3, 0)}, manyRows(12), manyRows(13), sampleRows(5, 8)}
 	for _, c := range faultyRows {
 		inputs = append(inputs, c.list)
@@ -226,7 +232,7 @@ func TestPlaceArgumentsAreUnchanged(t *testing.T) {
 		given := withSpare(input, placeMark)
 		before := slices.Clone(given[:cap(given)])
 		for _, mark := range []int64{-1, 0, 999, 1000} {
-			impl.PlacesOf(given, mark)
+			call(given, mark)
 		}
 		if !slices.Equal(given[:cap(given)], before) {
 			t.Errorf("%v was changed", input)
